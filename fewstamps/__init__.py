@@ -1,0 +1,1 @@
+"""Fewstamps: as few counters as can be, carried through a log."""
