@@ -198,3 +198,9 @@ def steps_to(befores, goal):
 def coming(log):
     """The list of all EVENTs in the order in which they can come, always the least one that can."""
     return least_first(befores_of(log))
+
+
+def marked_coming(log):
+    """The list of the marked EVENTs in the order in which they can come."""
+    chosen = {event: True for event in marked(log)}
+    return [event for event in coming(log) if event in chosen]

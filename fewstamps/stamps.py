@@ -29,21 +29,37 @@ def is_row(log, thing):
     return is_row_by(marked_aheads(log), thing)
 
 
-def is_cut(log, thing):
-    """Whether thing is a CUT of the LOG."""
-    aheads = marked_aheads(log)
+def is_cut_by(aheads, thing):
+    """Whether thing is a CUT, by what is ahead of each marked EVENT."""
     if not are_marked(aheads, thing) or not is_ascending(thing):
         return False
     return not any([one in aheads[other] for one in thing for other in thing])
 
 
+def is_cut(log, thing):
+    """Whether thing is a CUT of the LOG."""
+    return is_cut_by(marked_aheads(log), thing)
+
+
+def are_apart(parts):
+    """Whether these ROWs or CUTs have no common EVENT."""
+    found = [event for part in parts for event in part]
+    return len(set(found)) == len(found)
+
+
+def are_counters_by(aheads, thing):
+    """Whether thing is COUNTERS, by what is ahead of each marked EVENT."""
+    return isinstance(thing, tuple) and all([is_row_by(aheads, row) for row in thing]) and are_apart(thing)
+
+
+def are_cuts_by(aheads, thing):
+    """Whether thing is a tuple of CUTs without a common EVENT, by what is ahead of each marked EVENT."""
+    return isinstance(thing, tuple) and all([is_cut_by(aheads, cut) for cut in thing]) and are_apart(thing)
+
+
 def are_counters(log, thing):
     """Whether thing is COUNTERS of the LOG."""
-    aheads = marked_aheads(log)
-    if not isinstance(thing, tuple) or not all([is_row_by(aheads, row) for row in thing]):
-        return False
-    found = [event for row in thing for event in row]
-    return len(set(found)) == len(found)
+    return are_counters_by(marked_aheads(log), thing)
 
 
 def counted(counters):

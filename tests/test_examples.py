@@ -1,10 +1,17 @@
-"""The examples of DOC.md, word for word."""
+"""The examples of DOC.md, word for word, and those of README.md."""
 
 import doctest
+import os
 import unittest
 
 import fewstamps.data
+import fewstamps.growing
+import fewstamps.more
+import fewstamps.shape
 import fewstamps.stamps
+import fewstamps.told
+from fewstamps.errors import Backwards
+from tests.helpers import LOG
 
 # From [4].
 LOGS = '''
@@ -24,11 +31,66 @@ STAMPS = '''
     ((1, 1), (1, 2), (1, 2), [(1, ('b', 0), ('c', 1))])
 '''
 
+# From [6].
+SHAPE = '''
+    >>> gains(log), most_counted(log, 2), most_cut(log, 2), fewest_for(log, 6), fitting(log, 2, 1)
+    ([3, 2, 2], 5, 6, 3, None)
+    >>> fits(log, (counters, ((("a", 0), ("b", 0), ("c", 0)), (("a", 1), ("b", 2), ("c", 1)))))
+    True
+    >>> in_every(log, 1), in_none(log, 1), in_none(log, 2), raised(log)[3:6]
+    ([('a', 0), ('a', 1), ('a', 2)], [('b', 0), ('b', 2), ('c', 0), ('c', 1)], [], [(('b', 0), 2), (('b', 2), 2), (('c', 0), 3)])
+'''
+
+# From [7].
+TOLD = '''
+    >>> sheet(log, counters)[3:5], tells(sheet(log, counters), ("b", 2), ("c", 1)), tells(sheet(log, counters), ("b", 2), ("a", 2))
+    (((('b', 0), (1, 1), (0, 1)), (('b', 2), None, (1, 1))), 'open', 'not')
+    >>> len(told_pairs(sheet(log, counters))), len(open_pairs(sheet(log, counters))), sure(sheet(log, counters))
+    (7, 7, [('a', 0), ('a', 1), ('a', 2), ('b', 0), ('c', 1)])
+    >>> few = ((("p", 0), (0, 1), (1,)), (("q", 0), None, (0,)), (("r", 0), None, (1,)))
+    >>> is_sheet(few), open_pairs(few), orders(few, ("q", 0), ("r", 0))[0], is_sheet(few[1:])
+    (True, [(('q', 0), ('p', 0)), (('q', 0), ('r', 0))], ((('p', 0), ('r', 0)),), False)
+    >>> dropped(log, counters), added(log, counters), least_open(log, 1), least_open(log, 2), fewest_telling(log)
+    ([18, 11], ((('c', 0),), 1), 18, 7, 3)
+    >>> split = ((("p", 4, (0, 1, 2, 3)), ("q", 3, (0, 1, 2)), ("r", 1, (0,))), ((("p", 1), ("r", 0)), (("q", 0), ("r", 0))))
+    >>> least_open(split, 2), fewest_telling(split), least_open(split, 1)
+    (0, 2, 23)
+'''
+
+# From [8].
+GROWING = '''
+    >>> stand, elder = (1, 1, 0), ((("a", 0),), (("b", 0),))
+    >>> new_marked(log, stand), gains_on(log, stand, elder), fewest_on(log, stand, elder)
+    ([('a', 1), ('a', 2), ('b', 2), ('c', 0), ('c', 1)], [3, 2], 1)
+    >>> lets(log, stand, elder, (((("a", 1), ("c", 0)), (("a", 2), ("b", 2), ("c", 1))), (0, 1)), 0), is_barrier(log, stand, elder, ((("c", 0),), (0, 1)))
+    (3, True)
+    >>> most_kept(log, stand, elder, 1), keep(log, stand, elder, 1), stairs(log)[3:]
+    (3, (0,), [(('b', 0), 1, 2), (('b', 2), 2, 1), (('c', 0), 3, 3), (('c', 1), 4, 2)])
+    >>> stair_costs(log)[3:]
+    [(('b', 0), 2, 2, 3), (('b', 2), 3, 2, 4), (('c', 0), 4, 3, 4), (('c', 1), 5, 3, 5)]
+'''
+
+# From [10].
+MORE = '''
+    >>> width(log), sides(log, ("c", 0), ("b", 0)), widest_with(log, ("c", 0), ("b", 0)), widest_with(log, ("a", 2), ("b", 0))
+    (3, (3, 2), (('a', 1), ('b', 2), ('c', 1)), (('a', 0), ('c', 0)))
+    >>> saving(log), best_message(log), needless(log)
+    ([(('a', 2), ('b', 0), 1), (('a', 2), ('c', 0), 1), (('b', 2), ('c', 0), 1)], (('a', 2), ('b', 0)), [])
+    >>> costs(log), costs(((("p", 1, (0,)), ("q", 1, (0,))), ((("p", 0), ("q", 0)),)))
+    ([((('a', 0), ('b', 1)), 0), ((('b', 1), ('c', 1)), 0)], [((('p', 0), ('q', 0)), 1)])
+'''
+
+README = os.path.join(os.path.dirname(os.path.dirname(os.path.abspath(__file__))), "README.md")
+FILES = (
+    fewstamps.data, fewstamps.stamps, fewstamps.shape, fewstamps.told, fewstamps.growing, fewstamps.more,
+)
+
 
 def failures(text):
     """How many examples of the text there are, and how many fail."""
-    names = dict(vars(fewstamps.data))
-    names.update(vars(fewstamps.stamps))
+    names = {}
+    for file in FILES:
+        names.update(vars(file))
     example = doctest.DocTestParser().get_doctest(text, names, "DOC.md", "DOC.md", 0)
     result = doctest.DocTestRunner(verbose=False).run(example)
     return result.attempted, result.failed
@@ -40,6 +102,28 @@ class Examples(unittest.TestCase):
 
     def test_examples_of_stamps(self):
         self.assertEqual(failures(LOGS + STAMPS), (6, 0))
+
+    def test_examples_of_shapes(self):
+        self.assertEqual(failures(LOGS + STAMPS + SHAPE), (9, 0))
+
+    def test_examples_of_what_stamps_tell(self):
+        self.assertEqual(failures(LOGS + STAMPS + TOLD), (13, 0))
+
+    def test_examples_of_logs_that_grow(self):
+        self.assertEqual(failures(LOGS + STAMPS + GROWING), (11, 0))
+
+    def test_examples_of_messages_more_and_less(self):
+        self.assertEqual(failures(LOGS + STAMPS + MORE), (9, 0))
+
+    def test_examples_of_the_readme(self):
+        found = doctest.testfile(README, module_relative=False)
+        self.assertGreater(found.attempted, 10)
+        self.assertEqual(found.failed, 0)
+
+    def test_example_that_raises(self):
+        with self.assertRaises(Backwards) as caught:
+            fewstamps.more.with_message(LOG, ("b", 2), ("a", 0))
+        self.assertEqual((caught.exception.one, caught.exception.other), (("b", 2), ("a", 0)))
 
 
 if __name__ == "__main__":

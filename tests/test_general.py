@@ -1,17 +1,29 @@
-"""The general rules [2] and bounds [3], for each function of data.py and stamps.py."""
+"""The general rules [2] and bounds [3], for each function of the interface so far."""
 
 import copy
 import inspect
 import unittest
 
 import fewstamps.data
+import fewstamps.growing
+import fewstamps.more
+import fewstamps.shape
 import fewstamps.stamps
-from tests.helpers import BOUND, COUNTERS, EMPTY, JUNK, LOG, MANY_MESSAGES, listed, mixed
+import fewstamps.told
+from tests.helpers import BOUND, COUNTERS, EMPTY, JUNK, LOG, MANY_MESSAGES, UNMARKED, listed, mixed
 
 ROW = (("a", 0), ("b", 2))
 CUT = (("a", 1), ("b", 0), ("c", 0))
 MANY_COUNTERS = ((("p", 0), ("r", 1), ("r", 2)), (), (("r", 0),), (("q", 1),))
 BOUND_COUNTERS = ((("alpha", 0), ("b", 1), ("c", 1), ("machines", 2)), (("dd", 0), ("alpha", 3)), ())
+CUTS = ((("a", 0), ("b", 0), ("c", 0)), (("a", 1), ("b", 2), ("c", 1)))
+FEW = ((("p", 0), (0, 1), (1,)), (("q", 0), None, (0,)), (("r", 0), None, (1,)))
+STAND = (1, 1, 0)
+ELDER = ((("a", 0),), (("b", 0),))
+ON = (LOG, STAND, ELDER)
+BAR = (((("a", 1), ("c", 0)), (("a", 2), ("b", 2), ("c", 1))), (0, 1))
+BOUND_ON = (BOUND, (2, 2, 1, 2, 1), ((("alpha", 0), ("b", 1)), (("dd", 0),), ()))
+TWO_ENDS = (LOG, ("a", 2), ("b", 0))
 
 # The file, the function, the names of its parameters, and values for these.
 CALLS = (
@@ -41,20 +53,119 @@ CALLS = (
     ("stamps", "stamps", ("log", "counters"), (MANY_MESSAGES, MANY_COUNTERS)),
     ("stamps", "handed", ("counters",), (COUNTERS,)),
     ("stamps", "handed", ("counters",), (MANY_COUNTERS,)),
+    ("shape", "gains", ("log",), (LOG,)),
+    ("shape", "gains", ("log",), (BOUND,)),
+    ("shape", "most_counted", ("log", "many"), (LOG, 2)),
+    ("shape", "most_cut", ("log", "many"), (LOG, 2)),
+    ("shape", "best_counters", ("log", "many"), (LOG, 2)),
+    ("shape", "best_counters", ("log", "many"), (BOUND, 12)),
+    ("shape", "best_cuts", ("log", "many"), (LOG, 2)),
+    ("shape", "best_cuts", ("log", "many"), (BOUND, 12)),
+    ("shape", "fitting", ("log", "many", "height"), (LOG, 2, 2)),
+    ("shape", "fitting", ("log", "many", "height"), (LOG, 2, 1)),
+    ("shape", "fitting", ("log", "many", "height"), (BOUND, 0, 12)),
+    ("shape", "fits", ("log", "thing"), (LOG, (COUNTERS, CUTS))),
+    ("shape", "fewest_for", ("log", "many"), (LOG, 6)),
+    ("shape", "fewest_for", ("log", "many"), (LOG, 9)),
+    ("shape", "in_every", ("log", "many"), (LOG, 1)),
+    ("shape", "in_none", ("log", "many"), (LOG, 1)),
+    ("shape", "raised", ("log",), (LOG,)),
+    ("shape", "raised", ("log",), (BOUND,)),
+    ("told", "sheet", ("log", "counters"), (LOG, COUNTERS)),
+    ("told", "sheet", ("log", "counters"), (BOUND, BOUND_COUNTERS)),
+    ("told", "is_sheet", ("thing",), (FEW,)),
+    ("told", "is_order", ("sheet", "thing"), (FEW, ((("p", 0), ("r", 0)),))),
+    ("told", "tells", ("sheet", "one", "other"), (FEW, ("q", 0), ("r", 0))),
+    ("told", "tells", ("sheet", "one", "other"), (FEW, ("p", 0), ("r", 0))),
+    ("told", "told_pairs", ("sheet",), (FEW,)),
+    ("told", "open_pairs", ("sheet",), (FEW,)),
+    ("told", "orders", ("sheet", "one", "other"), (FEW, ("q", 0), ("r", 0))),
+    ("told", "sure", ("sheet",), (FEW,)),
+    ("told", "dropped", ("log", "counters"), (LOG, COUNTERS)),
+    ("told", "added", ("log", "counters"), (LOG, COUNTERS)),
+    ("told", "least_open", ("log", "many"), (LOG, 1)),
+    ("told", "telling", ("log", "many"), (LOG, 2)),
+    ("told", "fewest_telling", ("log",), (LOG,)),
+    ("growing", "is_stand", ("log", "thing"), (LOG, STAND)),
+    ("growing", "elder_log", ("log", "stand"), (LOG, (2, 2, 0))),
+    ("growing", "new_marked", ("log", "stand"), (LOG, STAND)),
+    ("growing", "go_on", ("log", "stand", "counters", "thing"), ON + (COUNTERS,)),
+    ("growing", "gains_on", ("log", "stand", "counters"), ON),
+    ("growing", "gains_on", ("log", "stand", "counters"), BOUND_ON),
+    ("growing", "going_on", ("log", "stand", "counters", "many"), ON + (1,)),
+    ("growing", "going_on", ("log", "stand", "counters", "many"), BOUND_ON + (2,)),
+    ("growing", "is_bar", ("log", "stand", "counters", "thing"), ON + (BAR,)),
+    ("growing", "lets", ("log", "stand", "counters", "bar", "many"), ON + (BAR, 1)),
+    ("growing", "bar", ("log", "stand", "counters", "many"), ON + (0,)),
+    ("growing", "bar", ("log", "stand", "counters", "many"), BOUND_ON + (1,)),
+    ("growing", "fewest_on", ("log", "stand", "counters"), ON),
+    ("growing", "barrier", ("log", "stand", "counters"), ON),
+    ("growing", "barrier", ("log", "stand", "counters"), BOUND_ON),
+    ("growing", "is_barrier", ("log", "stand", "counters", "thing"), ON + (((("c", 0),), (0, 1)),)),
+    ("growing", "most_kept", ("log", "stand", "counters", "many"), ON + (1,)),
+    ("growing", "keep", ("log", "stand", "counters", "many"), ON + (1,)),
+    ("growing", "keep", ("log", "stand", "counters", "many"), BOUND_ON + (2,)),
+    ("growing", "lets_kept", ("log", "stand", "counters", "bar", "many"), ON + (BAR, 1)),
+    ("growing", "bar_kept", ("log", "stand", "counters", "many"), ON + (1,)),
+    ("growing", "bar_kept", ("log", "stand", "counters", "many"), BOUND_ON + (2,)),
+    ("growing", "stairs", ("log",), (LOG,)),
+    ("growing", "stair_costs", ("log",), (LOG,)),
+    ("growing", "stair_costs", ("log",), (BOUND,)),
+    ("more", "width", ("log",), (LOG,)),
+    ("more", "with_message", ("log", "one", "other"), TWO_ENDS),
+    ("more", "with_message", ("log", "one", "other"), (LOG, ("a", 0), ("b", 1))),
+    ("more", "without_message", ("log", "message"), (LOG, (("a", 0), ("b", 1)))),
+    ("more", "widest_with", ("log", "one", "other"), TWO_ENDS),
+    ("more", "sides", ("log", "one", "other"), TWO_ENDS),
+    ("more", "saving", ("log",), (LOG,)),
+    ("more", "best_message", ("log",), (LOG,)),
+    ("more", "best_message", ("log",), (UNMARKED,)),
+    ("more", "needless", ("log",), (MANY_MESSAGES,)),
+    ("more", "costs", ("log",), (LOG,)),
 )
 FUNCTIONS = {
     "data": ("is_log", "events", "marked", "is_ahead", "past", "way", "coming"),
     "stamps": ("is_row", "is_cut", "are_counters", "counted", "place", "stamp", "stamps", "handed"),
+    "shape": (
+        "gains", "most_counted", "most_cut", "best_counters", "best_cuts", "fitting", "fits", "fewest_for",
+        "in_every", "in_none", "raised",
+    ),
+    "told": (
+        "sheet", "is_sheet", "is_order", "tells", "told_pairs", "open_pairs", "orders", "sure", "dropped",
+        "added", "least_open", "telling", "fewest_telling",
+    ),
+    "growing": (
+        "is_stand", "elder_log", "new_marked", "go_on", "gains_on", "going_on", "is_bar", "lets", "bar",
+        "fewest_on", "barrier", "is_barrier", "most_kept", "keep", "lets_kept", "bar_kept", "stairs",
+        "stair_costs",
+    ),
+    "more": (
+        "width", "with_message", "without_message", "widest_with", "sides", "saving", "best_message",
+        "needless", "costs",
+    ),
+}
+FILES = {
+    "data": fewstamps.data, "stamps": fewstamps.stamps, "shape": fewstamps.shape, "told": fewstamps.told,
+    "growing": fewstamps.growing, "more": fewstamps.more,
+}
+# What is a list, not a tuple.
+LISTS = {
+    "events", "marked", "past", "coming", "counted", "stamps", "handed", "gains", "in_every", "in_none", "raised",
+    "told_pairs", "open_pairs", "sure", "dropped", "new_marked", "gains_on", "stairs", "stair_costs", "saving",
+    "needless", "costs",
 }
 
 
 def function(file, name):
-    return getattr({"data": fewstamps.data, "stamps": fewstamps.stamps}[file], name)
+    return getattr(FILES[file], name)
 
 
 def changed(names, values, how):
     """The values with lists for tuples, but for what is called thing: there a tuple is a tuple."""
-    return [value if name == "thing" else how(value) for name, value in zip(names, values)]
+    return [
+        how(value) if name != "thing" and isinstance(value, (list, tuple)) else value
+        for name, value in zip(names, values)
+    ]
 
 
 def spoil(value):
@@ -95,6 +206,10 @@ class General(unittest.TestCase):
             found = function(file, name)(*changed(names, values, listed))
             for part in found if isinstance(found, list) else [found]:
                 self.assertNotIn("[", exact(part), name)
+
+    def test_several_results_are_a_list_unless_a_tuple_is_named(self):
+        for file, name, names, values in CALLS:
+            self.assertEqual(isinstance(function(file, name)(*values), list), name in LISTS, name)
 
     def test_by_names(self):
         for file, name, names, values in CALLS:
