@@ -71,14 +71,26 @@ def behinds_on(aheads, counters, new):
     return elder + [[many + at for at in places] for places in behinds_among(aheads, new)]
 
 
-def weave_on(log, stand, counters, further):
-    """The rows and gains of all elder ROWs and so many further ones, and the arcs that then are left."""
+def weave_by(log, stand, counters, weights, many):
+    """So many rows, and their gains, if the elder ROWs weigh so much; and the arcs that then are left."""
     new = new_marked(log, stand)
     behinds = behinds_on(aheads_of(log), counters, new)
+    every = weights + [1] * len(new)
+    rows, grown = weave(every, behinds, many)
+    return rows, grown, arcs_of(every, behinds, rows)
+
+
+def weave_on(log, stand, counters, further):
+    """The rows and gains of all elder ROWs and so many further ones, and the arcs that then are left."""
     # An elder ROW weighs more than all new EVENTs: so each one is at the head of a row of its own.
-    weights = [len(new) + 1] * len(counters) + [1] * len(new)
-    rows, grown = weave(weights, behinds, len(counters) + further)
-    return rows, grown, arcs_of(weights, behinds, rows)
+    weight = len(new_marked(log, stand)) + 1
+    return weave_by(log, stand, counters, [weight] * len(counters), len(counters) + further)
+
+
+def weave_kept(log, stand, counters, many):
+    """The rows and gains of so many rows in all, and the arcs that then are left."""
+    # Here an elder ROW weighs what it has, and one that is on no row is given up.
+    return weave_by(log, stand, counters, [len(row) for row in counters], many)
 
 
 def gains_on(log, stand, counters):
@@ -180,16 +192,6 @@ def is_barrier(log, stand, counters, thing):
     if any([is_behind(aheads, counters[at], event) for at in places for event in cut]):
         return False
     return len(cut) + len(places) == len(counters) + fewest_on(log, stand, counters)
-
-
-def weave_kept(log, stand, counters, many):
-    """The rows and gains of so many rows in all, and the arcs that then are left."""
-    new = new_marked(log, stand)
-    behinds = behinds_on(aheads_of(log), counters, new)
-    # Here an elder ROW weighs what it has, and one that is on no row is given up.
-    weights = [len(row) for row in counters] + [1] * len(new)
-    rows, grown = weave(weights, behinds, many)
-    return rows, grown, arcs_of(weights, behinds, rows)
 
 
 def most_kept(log, stand, counters, many):
