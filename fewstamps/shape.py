@@ -267,10 +267,8 @@ def in_none(log, many):
     return [event for event in marked(log) if weigh(log, many, event, 3) == 2 * most]
 
 
-def raised(log):
-    """For the EVENTs as they come the pairs (event, i): a(i) of those so far is greater by 1 with this one."""
-    aheads = aheads_of(log)
-    order = marked_coming(log)
+def raised_by(aheads, order):
+    """For these EVENTs, one by one, the pairs (event, i): a(i) of those so far is greater by 1 with this one."""
     before = []
     found = []
     for at, event in enumerate(order):
@@ -279,3 +277,8 @@ def raised(log):
         found.append((event, grown[0] + 1))
         before = now
     return found
+
+
+def raised(log):
+    """For the EVENTs as they come the pairs (event, i): a(i) of those so far is greater by 1 with this one."""
+    return raised_by(aheads_of(log), marked_coming(log))

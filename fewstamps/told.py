@@ -122,6 +122,11 @@ def tells(sheet, one, other):
     return "open" if is_left_open(lines[one], lines[other]) else "not"
 
 
+def tells_now(log, counters, one, other):
+    """What is told of the pair by the SHEET of the LOG; raises NoEvent."""
+    return tells(sheet(log, counters), one, other)
+
+
 def told_pairs(sheet):
     """The ascending list of the pairs that are told ahead."""
     lines = tupled(sheet)

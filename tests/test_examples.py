@@ -4,13 +4,17 @@ import doctest
 import os
 import unittest
 
+import fewstamps.book
+import fewstamps.carry
 import fewstamps.data
+import fewstamps.desk
 import fewstamps.growing
 import fewstamps.more
 import fewstamps.shape
 import fewstamps.stamps
+import fewstamps.texts
 import fewstamps.told
-from fewstamps.errors import Backwards
+from fewstamps.errors import Backwards, BadLine, BadRow, NotBehind
 from tests.helpers import LOG
 
 # From [4].
@@ -80,9 +84,47 @@ MORE = '''
     ([((('a', 0), ('b', 1)), 0), ((('b', 1), ('c', 1)), 0)], [((('p', 0), ('q', 0)), 1)])
 '''
 
+# From [9].
+CARRY = '''
+    >>> talk = ((("a", 3, (0, 1, 2)), ("b", 2, (0,))), ((("a", 0), ("b", 0)), (("a", 2), ("b", 1)), (("b", 0), ("a", 1))))
+    >>> two, last = by_machines(talk), (("a", 2), ("b", 1))
+    >>> two, has_surely(talk, two, last), must_carry(talk, two, last), by_last(talk, two, last)
+    (((('a', 0), ('a', 1), ('a', 2)), (('b', 0),)), (1, 1), ((0, 3),), ((0, 3), (1, 1)))
+    >>> witness(talk, two, last, 1), is_witness(talk, two, last, 0, False, (talk, last)), news(talk, two, ("a", 1)), totals(talk, two)
+    (None, True, ((1, 1),), [(2, 2), (1, 1)])
+    >>> known_of(talk, two, ("a", 2), "b"), must_carry(log, counters, (("b", 1), ("c", 1))), late(log, counters, (("b", 1), ("c", 1)))
+    ((1, 1), ((0, 1), (1, 1)), ())
+'''
+
+# From [11].
+TEXTS = r'''
+    >>> log_text(log), counters_text(counters), stamp_text((1, 2))
+    ('a ###\nb #.#\nc ##\na 0 > b 1\nb 1 > c 1', 'a 0, a 1, a 2 | b 0, c 1', '1 2')
+    >>> log_in("a ##\nb -"), counters_in(log, "none"), counters_in(log, "-"), log_in("")
+    (((('a', 2, (0, 1)), ('b', 0, ())), ()), (), ((),), ((), ()))
+'''
+
+# From [12].
+DESK = r'''
+    >>> answers("a ###\nb #.#\nc ##\na 0 > b 1\nb 1 > c 1\n\na 0, a 1, a 2 | b 0, c 1\nahead a 0 c 1\nstamp c 1\ntells b 2 c 1\nwidth\nbest\nmark b 1\nmessage a 2 b 0\nwidth\npast b 0\nstamp d 0")
+    ['yes', '1 2', 'open', '3', 'a 2 > b 0', 'refused NotBehind', 'done', '2', 'a 0, a 1, a 2', 'refused NoEvent']
+'''
+
+# From [13].
+BOOK = '''
+    >>> book = Book(("a", "b"))
+    >>> book.mark("a", 0), book.send("a", "b"), book.entries(0), book.mark("b", 1), book.come(0), book.known("b")
+    (('a', 0), 0, ((0, 1),), ('b', 0), ('b', 1), (1, 1))
+    >>> book.mark("b", 0), book.counters(), book.raised()
+    (('b', 2), ((('a', 0), ('b', 2)), (('b', 0),)), [(('a', 0), 1), (('b', 0), 2), (('b', 2), 1)])
+    >>> book.send("b", "a"), book.entries(1), book.tells(("a", 0), ("b", 0)), book.under_way(), list(book)
+    (1, ((0, 2), (1, 1)), 'not', [1], [('a', 0), ('b', 0), ('b', 1), ('b', 2)])
+'''
+
 README = os.path.join(os.path.dirname(os.path.dirname(os.path.abspath(__file__))), "README.md")
 FILES = (
     fewstamps.data, fewstamps.stamps, fewstamps.shape, fewstamps.told, fewstamps.growing, fewstamps.more,
+    fewstamps.carry, fewstamps.texts, fewstamps.desk, fewstamps.book,
 )
 
 
@@ -115,10 +157,42 @@ class Examples(unittest.TestCase):
     def test_examples_of_messages_more_and_less(self):
         self.assertEqual(failures(LOGS + STAMPS + MORE), (9, 0))
 
+    def test_examples_of_what_messages_carry(self):
+        self.assertEqual(failures(LOGS + STAMPS + CARRY), (11, 0))
+
+    def test_examples_of_texts(self):
+        self.assertEqual(failures(LOGS + STAMPS + TEXTS), (8, 0))
+
+    def test_examples_of_a_desk(self):
+        self.assertEqual(failures(DESK), (1, 0))
+
+    def test_examples_of_a_book(self):
+        self.assertEqual(failures(BOOK), (4, 0))
+
     def test_examples_of_the_readme(self):
         found = doctest.testfile(README, module_relative=False)
         self.assertGreater(found.attempted, 10)
         self.assertEqual(found.failed, 0)
+
+    def test_examples_of_texts_that_raise(self):
+        with self.assertRaises(BadLine) as caught:
+            fewstamps.texts.log_in("a ##\nb #\na 1 > b 0\nb 0 > a 0")
+        self.assertEqual(caught.exception.number, 3)
+        with self.assertRaises(BadRow) as caught:
+            fewstamps.texts.counters_in(LOG, "a 0, b 2 | b 0, a 2")
+        self.assertEqual(caught.exception.number, 1)
+
+    def test_example_of_a_book_that_raises(self):
+        book = fewstamps.book.Book(("a", "b"))
+        book.mark("a", 0)
+        book.send("a", "b")
+        book.mark("b", 1)
+        book.come(0)
+        book.mark("b", 0)
+        book.send("b", "a")
+        with self.assertRaises(NotBehind) as caught:
+            book.mark("a", 0)
+        self.assertEqual(caught.exception.counter, 0)
 
     def test_example_that_raises(self):
         with self.assertRaises(Backwards) as caught:

@@ -4,11 +4,14 @@ import copy
 import inspect
 import unittest
 
+import fewstamps.carry
 import fewstamps.data
+import fewstamps.desk
 import fewstamps.growing
 import fewstamps.more
 import fewstamps.shape
 import fewstamps.stamps
+import fewstamps.texts
 import fewstamps.told
 from tests.helpers import BOUND, COUNTERS, EMPTY, JUNK, LOG, MANY_MESSAGES, UNMARKED, listed, mixed
 
@@ -24,6 +27,16 @@ ON = (LOG, STAND, ELDER)
 BAR = (((("a", 1), ("c", 0)), (("a", 2), ("b", 2), ("c", 1))), (0, 1))
 BOUND_ON = (BOUND, (2, 2, 1, 2, 1), ((("alpha", 0), ("b", 1)), (("dd", 0),), ()))
 TWO_ENDS = (LOG, ("a", 2), ("b", 0))
+
+TALK = (
+    (("a", 3, (0, 1, 2)), ("b", 2, (0,))),
+    ((("a", 0), ("b", 0)), (("a", 2), ("b", 1)), (("b", 0), ("a", 1))),
+)
+LAST = (("a", 2), ("b", 1))
+TALKED = (TALK, ((("a", 0), ("a", 1), ("a", 2)), (("b", 0),)))
+BOUND_COUNTED = (BOUND, BOUND_COUNTERS)
+BOUND_LAST = (("machines", 0), ("c", 2))
+TEXT = "a ###\nb #.#\nc ##\na 0 > b 1\nb 1 > c 1"
 
 # The file, the function, the names of its parameters, and values for these.
 CALLS = (
@@ -122,6 +135,42 @@ CALLS = (
     ("more", "best_message", ("log",), (UNMARKED,)),
     ("more", "needless", ("log",), (MANY_MESSAGES,)),
     ("more", "costs", ("log",), (LOG,)),
+    ("carry", "is_in_order", ("log",), (TALK,)),
+    ("carry", "alike", ("log", "other", "event"), (LOG, LOG, ("c", 1))),
+    ("carry", "alike", ("log", "other", "event"), (LOG, BOUND, ("c", 1))),
+    ("carry", "has_surely", ("log", "counters", "message", "in_order"), TALKED + (LAST, True)),
+    ("carry", "has_surely", ("log", "counters", "message", "in_order"), BOUND_COUNTED + (BOUND_LAST, False)),
+    ("carry", "must_carry", ("log", "counters", "message", "in_order"), TALKED + (LAST, False)),
+    ("carry", "must_carry", ("log", "counters", "message", "in_order"), BOUND_COUNTED + (BOUND_LAST, False)),
+    ("carry", "witness", ("log", "counters", "message", "counter", "in_order"), TALKED + (LAST, 0, True)),
+    ("carry", "witness", ("log", "counters", "message", "counter", "in_order"), TALKED + (LAST, 1, False)),
+    ("carry", "witness", ("log", "counters", "message", "counter", "in_order"), BOUND_COUNTED + (BOUND_LAST, 0, False)),
+    (
+        "carry", "is_witness", ("log", "counters", "message", "counter", "in_order", "thing"),
+        TALKED + (LAST, 0, True, (TALK, LAST)),
+    ),
+    ("carry", "news", ("log", "counters", "event"), TALKED + (("a", 1),)),
+    ("carry", "news", ("log", "counters", "event"), BOUND_COUNTED + (("machines", 2),)),
+    ("carry", "late", ("log", "counters", "message", "in_order"), TALKED + (LAST, True)),
+    ("carry", "late", ("log", "counters", "message", "in_order"), BOUND_COUNTED + (BOUND[1][-1], False)),
+    ("carry", "totals", ("log", "counters", "in_order"), TALKED + (True,)),
+    ("carry", "totals", ("log", "counters", "in_order"), BOUND_COUNTED + (False,)),
+    ("carry", "by_last", ("log", "counters", "message"), TALKED + (LAST,)),
+    ("carry", "known_of", ("log", "counters", "event", "name"), TALKED + (("a", 2), "b")),
+    ("carry", "by_machines", ("log",), (LOG,)),
+    ("carry", "by_machines", ("log",), (BOUND,)),
+    ("texts", "log_text", ("log",), (LOG,)),
+    ("texts", "log_text", ("log",), (BOUND,)),
+    ("texts", "log_in", ("text",), (TEXT,)),
+    ("texts", "log_in", ("text",), ("",)),
+    ("texts", "counters_text", ("counters",), (COUNTERS,)),
+    ("texts", "counters_text", ("counters",), (BOUND_COUNTERS,)),
+    ("texts", "counters_in", ("log", "text"), (LOG, "a 0, b 2 | -")),
+    ("texts", "counters_in", ("log", "text"), (LOG, "none")),
+    ("texts", "stamp_text", ("stamp",), ((1, 12, 0),)),
+    ("texts", "stamp_text", ("stamp",), ((),)),
+    ("desk", "answers", ("text",), (TEXT + "\n\na 0, b 2 | -\nwidth\nmark a 1\nstamp a 3\nmark d 0",)),
+    ("desk", "answers", ("text",), ("\nnone",)),
 )
 FUNCTIONS = {
     "data": ("is_log", "events", "marked", "is_ahead", "past", "way", "coming"),
@@ -143,16 +192,23 @@ FUNCTIONS = {
         "width", "with_message", "without_message", "widest_with", "sides", "saving", "best_message",
         "needless", "costs",
     ),
+    "carry": (
+        "is_in_order", "alike", "has_surely", "must_carry", "witness", "is_witness", "news", "late", "totals",
+        "by_last", "known_of", "by_machines",
+    ),
+    "texts": ("log_text", "log_in", "counters_text", "counters_in", "stamp_text"),
+    "desk": ("answers",),
 }
 FILES = {
     "data": fewstamps.data, "stamps": fewstamps.stamps, "shape": fewstamps.shape, "told": fewstamps.told,
-    "growing": fewstamps.growing, "more": fewstamps.more,
+    "growing": fewstamps.growing, "more": fewstamps.more, "carry": fewstamps.carry, "texts": fewstamps.texts,
+    "desk": fewstamps.desk,
 }
 # What is a list, not a tuple.
 LISTS = {
     "events", "marked", "past", "coming", "counted", "stamps", "handed", "gains", "in_every", "in_none", "raised",
     "told_pairs", "open_pairs", "sure", "dropped", "new_marked", "gains_on", "stairs", "stair_costs", "saving",
-    "needless", "costs",
+    "needless", "costs", "totals", "answers",
 }
 
 
@@ -217,6 +273,14 @@ class General(unittest.TestCase):
             for order in (1, -1):
                 told = dict(list(zip(names, values))[::order])
                 self.assertEqual(exact(function(file, name)(**told)), exact(right))
+
+    def test_in_order_is_left_out(self):
+        for file, name, names, values in CALLS:
+            if "in_order" in names and "thing" not in names:
+                self.assertEqual(names[-1], "in_order")
+                self.assertEqual(inspect.signature(function(file, name)).parameters["in_order"].default, False)
+                right = function(file, name)(*values[:-1], False)
+                self.assertEqual(exact(function(file, name)(*values[:-1])), exact(right))
 
     def test_things_are_asked_for_exactly(self):
         for file, name, names, values in CALLS:

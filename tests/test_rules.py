@@ -13,7 +13,7 @@ LIBRARY = ("heapq", "math", "itertools", "collections")
 # L8, without the error classes, and without what no file so far has a use for.
 BUILTINS = {
     "len", "range", "enumerate", "zip", "min", "max", "sum", "abs", "sorted", "reversed", "int", "str", "bool",
-    "list", "tuple", "dict", "set", "isinstance", "any", "all", "True", "False", "None", "RuntimeError",
+    "list", "tuple", "dict", "set", "isinstance", "any", "all", "iter", "True", "False", "None", "RuntimeError",
     "LookupError", "ValueError",
 }
 # L25.
@@ -30,7 +30,7 @@ BARRED = {
     "hasattr", "help", "id", "importlib", "license", "locals", "methodcaller", "os", "quit", "setattr", "super",
     "type", "vars", "sys",
 }
-# What L6 and L7 allow, as far as there is a use for it; no try, no with, no lambda, no generator.
+# What L6 and L7 allow, as far as there is a use for it; no with, no lambda, no generator.
 NODES = (
     ast.Module, ast.FunctionDef, ast.ClassDef, ast.ImportFrom, ast.alias, ast.arguments, ast.arg, ast.Expr,
     ast.Assign, ast.AugAssign, ast.Return, ast.If, ast.For, ast.While, ast.Pass, ast.Raise, ast.Break, ast.Continue,
@@ -38,8 +38,10 @@ NODES = (
     ast.Attribute, ast.Subscript, ast.Slice, ast.Compare, ast.BoolOp, ast.BinOp, ast.UnaryOp, ast.IfExp,
     ast.ListComp, ast.DictComp, ast.comprehension, ast.And, ast.Or, ast.Not, ast.Add, ast.Sub, ast.Mult,
     ast.FloorDiv, ast.BitAnd, ast.BitOr, ast.RShift, ast.LShift, ast.USub, ast.Eq, ast.NotEq, ast.Lt, ast.LtE,
-    ast.Gt, ast.GtE, ast.Is, ast.IsNot, ast.In, ast.NotIn,
+    ast.Gt, ast.GtE, ast.Is, ast.IsNot, ast.In, ast.NotIn, ast.Try, ast.ExceptHandler, ast.Starred,
+    ast.JoinedStr, ast.FormattedValue,
 )
+CHANGING = ("append", "clear", "extend", "insert", "pop", "remove", "reverse", "setdefault")
 
 
 def paths():
@@ -122,16 +124,51 @@ def comprehensions(node):
     return [inner for inner in ast.walk(node) if isinstance(inner, (ast.ListComp, ast.DictComp))]
 
 
+def dotted(node):
+    """The names in an expression, and the attributes of names (`self.rows`) instead of these names."""
+    whole = [
+        inner for inner in ast.walk(node) if isinstance(inner, ast.Attribute) and isinstance(inner.value, ast.Name)
+    ]
+    inside = [inner.value for inner in whole]
+    plain = [inner.id for inner in ast.walk(node) if isinstance(inner, ast.Name) and inner not in inside]
+    return set(plain) | {"." + inner.attr for inner in whole}
+
+
 def changed_names(body):
-    """The names whose value is changed in the rows of a loop, by a method, an item or an attribute."""
+    """The names and attributes whose value is changed in the rows of a loop, by a method, an item or an attribute."""
     found = set()
     for node in [inner for row in body for inner in ast.walk(row)]:
-        if isinstance(node, ast.Call) and isinstance(node.func, ast.Attribute):
-            if node.func.attr in ("append", "clear", "extend", "insert", "pop", "remove", "reverse", "setdefault"):
-                found |= {inner.id for inner in ast.walk(node.func.value) if isinstance(inner, ast.Name)}
-        elif isinstance(node, (ast.Subscript, ast.Attribute)) and isinstance(node.ctx, ast.Store):
-            found |= {inner.id for inner in ast.walk(node.value) if isinstance(inner, ast.Name)}
+        if isinstance(node, ast.Call) and isinstance(node.func, ast.Attribute) and node.func.attr in CHANGING:
+            found |= dotted(node.func.value)
+        elif isinstance(node, ast.Subscript) and isinstance(node.ctx, ast.Store):
+            found |= dotted(node.value)
+        elif isinstance(node, ast.Attribute) and isinstance(node.ctx, ast.Store):
+            found |= dotted(node)
     return found
+
+
+def own_classes():
+    """The classes of the package: a name, its tree, and whether it is an error class."""
+    found = []
+    for _, text in sources():
+        for node in ast.walk(ast.parse(text)):
+            if isinstance(node, ast.ClassDef):
+                found.append((node.name, node, bool(node.bases)))
+    return found
+
+
+def own_methods():
+    return {row.name for _, node, _ in own_classes() for row in node.body if isinstance(row, ast.FunctionDef)}
+
+
+def is_plain(node, known):
+    """Whether a value at module level is plain: a constant, or a dict or tuple of constants and functions above."""
+    if isinstance(node, ast.UnaryOp):
+        node = node.operand
+    if isinstance(node, (ast.Dict, ast.Tuple)):
+        parts = node.keys + node.values if isinstance(node, ast.Dict) else node.elts
+        return all(isinstance(part, ast.Constant) or getattr(part, "id", None) in known for part in parts)
+    return isinstance(node, ast.Constant)
 
 
 class Rules(unittest.TestCase):
@@ -186,10 +223,11 @@ class Rules(unittest.TestCase):
             self.assertEqual(used - known, set(), name)
 
     def test_no_other_methods(self):
+        known = METHODS | own_methods()
         for name, text in sources():
             for node in ast.walk(ast.parse(text)):
                 if isinstance(node, ast.Call) and isinstance(node.func, ast.Attribute):
-                    self.assertIn(node.func.attr, METHODS, name)
+                    self.assertIn(node.func.attr, known, name)
                     self.assertEqual(node.keywords, [], name)
 
     def test_no_other_statements_and_expressions(self):
@@ -219,8 +257,68 @@ class Rules(unittest.TestCase):
         for name, text in sources():
             for loop in ast.walk(ast.parse(text)):
                 if isinstance(loop, ast.For):
-                    over = {node.id for node in ast.walk(loop.iter) if isinstance(node, ast.Name)}
-                    self.assertEqual(over & changed_names(loop.body), set(), (name, loop.lineno))
+                    self.assertEqual(dotted(loop.iter) & changed_names(loop.body), set(), (name, loop.lineno))
+
+    def test_the_script_sees_changes_in_a_loop(self):
+        for text, right in (
+            ("for x in xs: xs.append(1)", {"xs"}), ("for x in self.rows: self.rows[0] = x", {".rows"}),
+            ("for x in self.rows: self.names.append(x)", set()), ("for x in xs: ys[xs[0]] = 1", set()),
+            ("for x in self.rows: self.rows = 1", {".rows"}), ("for x in zip(xs, ys): ys.pop()", {"ys"}),
+        ):
+            loop = ast.parse(text).body[0]
+            self.assertEqual(dotted(loop.iter) & changed_names(loop.body), right, text)
+
+    def test_errors_are_caught_and_raised_by_the_names_of_own_classes(self):
+        errors = {name for name, _, is_error in own_classes() if is_error}
+        for name, text in sources():
+            for node in ast.walk(ast.parse(text)):
+                if isinstance(node, ast.ExceptHandler):
+                    self.assertIn(node.type.id, errors, name)
+                    self.assertIsNone(node.name, name)
+                elif isinstance(node, ast.Raise):
+                    self.assertIn(node.exc.func.id, errors, name)
+                elif isinstance(node, ast.Try):
+                    self.assertEqual((node.orelse, node.finalbody), ([], []), name)
+
+    def test_no_name_is_a_method_and_an_attribute(self):
+        attributes = {
+            node.attr for _, text in sources() for node in ast.walk(ast.parse(text))
+            if isinstance(node, ast.Attribute) and isinstance(node.ctx, ast.Store)
+        }
+        self.assertEqual(attributes & own_methods(), set())
+        builtin = {name for value in ("", 0, [], {}, set(), b"") for name in dir(value)} - set(dir(object))
+        self.assertEqual((attributes | own_methods()) & builtin, {"__iter__", "__len__"})
+        for name, node, _ in own_classes():
+            methods = [row.name for row in node.body if isinstance(row, ast.FunctionDef)]
+            self.assertEqual(len(methods), len(set(methods)), name)
+
+    def test_iter_is_asked_in_one_place(self):
+        for name, text in sources():
+            for node in functions(text):
+                if "iter" in {inner.id for inner in ast.walk(node) if isinstance(inner, ast.Name)}:
+                    self.assertEqual((name, node.name, len(node.body)), ("book.py", "__iter__", 1))
+
+    def test_a_star_stands_before_a_name_alone(self):
+        for name, text in sources():
+            for node in ast.walk(ast.parse(text)):
+                if isinstance(node, ast.Call) and any(isinstance(part, ast.Starred) for part in node.args):
+                    for part in node.args:
+                        inner = part.value if isinstance(part, ast.Starred) else part
+                        self.assertIsInstance(inner, ast.Name, (name, node.lineno))
+
+    def test_tables_are_only_read(self):
+        for name, text in sources():
+            tree = ast.parse(text)
+            assigned = [row for row in tree.body if isinstance(row, ast.Assign)]
+            tables = {row.targets[0].id for row in assigned if isinstance(row.value, ast.Dict)}
+            right = 0
+            for node in ast.walk(tree):
+                if isinstance(node, ast.Subscript) and isinstance(node.ctx, ast.Load):
+                    right += getattr(node.value, "id", None) in tables
+                elif isinstance(node, ast.Compare) and isinstance(node.ops[0], ast.In):
+                    right += getattr(node.comparators[0], "id", None) in tables
+            used = [node for node in ast.walk(tree) if isinstance(node, ast.Name) and node.id in tables]
+            self.assertEqual(len(used) - len(tables), right, name)
 
     def test_inner_comprehensions_take_names_of_their_own(self):
         for name, text in sources():
@@ -261,10 +359,13 @@ class Rules(unittest.TestCase):
 
     def test_no_attribute_of_a_module_is_state(self):
         for name, text in sources():
+            known = set()
             for node in ast.parse(text).body:
-                if isinstance(node, ast.Assign):
-                    value = node.value.operand if isinstance(node.value, ast.UnaryOp) else node.value
-                    self.assertIsInstance(value, ast.Constant, name)
+                if isinstance(node, ast.FunctionDef):
+                    known.add(node.name)
+                elif isinstance(node, ast.Assign):
+                    self.assertTrue(is_plain(node.value, known), (name, node.lineno))
+                    self.assertEqual(len(node.targets), 1, name)
 
 
 if __name__ == "__main__":
